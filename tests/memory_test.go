@@ -1,7 +1,9 @@
 package tests
 
 import (
+	"cmp"
 	"reflect"
+	"slices"
 	"testing"
 
 	"loop.example/g00281/impl"
@@ -64,6 +66,30 @@ func markOf(typ reflect.Type) reflect.Value {
 	return out
 }
 
+// cloneOf is v with every list in it copied, with no room behind it.
+func cloneOf[T any](v T) T {
+	return cloneValue(reflect.ValueOf(v)).Interface().(T)
+}
+
+func cloneValue(v reflect.Value) reflect.Value {
+	out := reflect.New(v.Type()).Elem()
+	switch v.Kind() {
+	case reflect.Slice:
+		list := reflect.MakeSlice(v.Type(), v.Len(), v.Len())
+		for i := range v.Len() {
+			list.Index(i).Set(cloneValue(v.Index(i)))
+		}
+		out.Set(list)
+	case reflect.Struct:
+		for i := range v.NumField() {
+			out.Field(i).Set(cloneValue(v.Field(i)))
+		}
+	default:
+		out.Set(v)
+	}
+	return out
+}
+
 // whole is v with every list in it copied and as long as its room, so that
 // two of them tell whether something was written in between.
 func whole[T any](v T) T {
@@ -92,8 +118,6 @@ func wholeValue(v reflect.Value) reflect.Value {
 
 type span struct{ from, to uintptr }
 
-func (s span) meets(o span) bool { return s.from < o.to && o.from < s.to }
-
 // spansOf lists the room of every list in v.
 func spansOf(v reflect.Value) []span {
 	var out []span
@@ -114,24 +138,37 @@ func spansOf(v reflect.Value) []span {
 	return out
 }
 
-func sharesWithin(answer any) bool {
-	list := spansOf(reflect.ValueOf(answer))
-	for i, a := range list {
-		for _, b := range list[:i] {
-			if a.meets(b) {
-				return true
-			}
+// joined is the same room in order, with what meets as one span.
+func joined(v any) (list []span, met bool) {
+	all := spansOf(reflect.ValueOf(v))
+	slices.SortFunc(all, func(a, b span) int { return cmp.Compare(a.from, b.from) })
+	for _, s := range all {
+		if last := len(list) - 1; last >= 0 && s.from < list[last].to {
+			met = true
+			list[last].to = max(list[last].to, s.to)
+		} else {
+			list = append(list, s)
 		}
 	}
-	return false
+	return list, met
+}
+
+func sharesWithin(answer any) bool {
+	_, met := joined(answer)
+	return met
 }
 
 func sharesWith(answer, given any) bool {
-	for _, a := range spansOf(reflect.ValueOf(answer)) {
-		for _, b := range spansOf(reflect.ValueOf(given)) {
-			if a.meets(b) {
-				return true
-			}
+	a, _ := joined(answer)
+	b, _ := joined(given)
+	for len(a) > 0 && len(b) > 0 {
+		switch {
+		case a[0].to <= b[0].from:
+			a = a[1:]
+		case b[0].to <= a[0].from:
+			b = b[1:]
+		default:
+			return true
 		}
 	}
 	return false
@@ -166,6 +203,9 @@ func TestMemoryHelpers(t *testing.T) {
 	r := roomy(s)
 	if sharesWith(r, s) || sharesWithin(r) || cap(r.Queue) == len(r.Queue) || cap(r.Queue[0].List) == len(r.Queue[0].List) {
 		t.Error("roomy")
+	}
+	if c := cloneOf(r); sharesWith(c, r) || sharesWithin(c) || cap(c.Queue) != 1 || !reflect.DeepEqual(c, s) {
+		t.Error("cloneOf")
 	}
 	if !sharesWith(s, s) || !sharesWithin(box{s, s}) || sharesWithin(box{s, r}) {
 		t.Error("shares")
