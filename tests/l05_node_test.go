@@ -716,23 +716,31 @@ func TestNodeHearsAsTheWordsGo(t *testing.T) {
 	}
 }
 
+// wantWordByWord is Want as the document's words go, for a right node.
+func wantWordByWord(n impl.Node, nodes, page int, own bool) (impl.Node, bool) {
+	if page < 0 || page >= impl.Pages {
+		return n, false
+	}
+	kind, enough := impl.MgShare, impl.StRead
+	if own {
+		kind, enough = impl.MgOwn, impl.StWrite
+	}
+	f := n.Frames[page]
+	then, ok := queuedTo(n, []impl.Told{{To: homesOfPages[nodes][page], Msg: impl.Msg{Kind: kind, Page: page}}})
+	if !ok || f.Asked || f.State >= enough {
+		return n, false
+	}
+	then.Frames[page].Asked = true
+	return then, true
+}
+
 func TestWantAsTheWordsGo(t *testing.T) {
 	r := rand.New(rand.NewSource(6))
 	for range 10000 {
 		nodes := r.Intn(impl.MaxNodes) + 1
 		n, page, own := someNode(r, nodes), r.Intn(impl.Pages), r.Intn(2) == 0
-		f := n.Frames[page]
-		kind, enough := impl.MgShare, impl.StRead
-		if own {
-			kind, enough = impl.MgOwn, impl.StWrite
-		}
-		want, ok := queuedTo(n, []impl.Told{{To: homesOfPages[nodes][page], Msg: impl.Msg{Kind: kind, Page: page}}})
-		if ok = ok && !f.Asked && f.State < enough; ok {
-			want.Frames[page].Asked = true
-			wantWant(t, n, nodes, page, own, want, true)
-		} else {
-			wantUnwanted(t, n, nodes, page, own)
-		}
+		want, ok := wantWordByWord(n, nodes, page, own)
+		wantWant(t, n, nodes, page, own, want, ok)
 	}
 }
 
