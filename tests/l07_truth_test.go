@@ -989,10 +989,14 @@ func (f *flow) look() {
 		_, where := truthByWords(f.w, page)
 		f.count[where]++
 	}
-	for _, n := range f.w.Nodes {
-		for _, s := range n.Out {
+	for from, n := range f.w.Nodes {
+		for to, s := range n.Out {
 			if len(s.Queue) == impl.MaxQueue {
 				f.count["a full line"]++
+			}
+			// Sane does not ask this of a node and itself, but it holds there, too.
+			if got := f.w.Nodes[to].In[from].Got; got < s.Base || got > s.Base+len(s.Queue) {
+				f.t.Fatalf("node %d has Got %d of %d, which has sent %d", to, got, from, s.Base+len(s.Queue))
 			}
 		}
 	}
