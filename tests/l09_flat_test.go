@@ -257,11 +257,7 @@ func TestTargetOfEveryPlace(t *testing.T) {
 	for _, o := range insOps {
 		for x := range placesOf(o) {
 			for _, h := range runningHarts() {
-				want := -1
-				if hasTarget(x.Op) {
-					want = leftBy(leftBy(h.Regs[x.A]+x.N, 65536), 24)
-				}
-				wantTarget(t, x, h.Regs, want)
+				wantTarget(t, x, h.Regs, targetByWords(x, h.Regs))
 			}
 		}
 	}
@@ -282,14 +278,54 @@ func TestTargetOfWrongThings(t *testing.T) {
 	wantTarget(t, impl.Ins{Op: impl.InLoad, A: 2}, []int{1, 2, 3, 4, 5}, -1)
 }
 
-// Registers that are no words: there are four of them, so it is some address.
+// A register that is no word: what it and N are together is no sum of words, so
+// it does not go round at MaxWord. The numbers at both ends of int are as sure.
 func TestTargetOfRegistersThatAreNoWords(t *testing.T) {
+	cases := []struct{ reg, n, want int }{
+		{65536, 0, 16}, {65536, 4, 20}, {65536, 7, 23}, {65536, 8, 0}, {65536, 63, 7}, {65537, 0, 17}, {65537, 63, 8},
+		{1000001, 0, 17}, {1000001, 63, 8}, {math.MaxInt, 0, 7}, {math.MaxInt, 1, 8}, {math.MaxInt, 63, 22}, {math.MaxInt - 63, 63, 7}, {math.MaxInt - 62, 63, 8},
+		{-1, 0, 23}, {-1, 1, 0}, {-1, 2, 1}, {-1, 63, 14}, {-2, 1, 23}, {-24, 0, 0}, {-25, 0, 23}, {-30, 2, 20}, {-63, 63, 0}, {-64, 63, 23},
+		{-65536, 0, 8}, {-65536, 63, 23}, {-1000000, 0, 8}, {-1000000, 63, 23}, {math.MinInt, 0, 16}, {math.MinInt, 1, 17}, {math.MinInt, 63, 7},
+	}
+	for _, op := range []int{impl.InLoad, impl.InStore, impl.InSwap} {
+		for _, c := range cases {
+			for a := range 4 {
+				regs := []int{5, 65535, -7, 65536}
+				regs[a] = c.reg
+				wantTarget(t, impl.Ins{Op: op, A: a, N: c.n}, regs, c.want)
+			}
+		}
+	}
+}
+
+// Only register A counts: a word there is one of a sum of words, whatever the
+// others are.
+func TestTargetBesideRegistersThatAreNoWords(t *testing.T) {
+	for _, n := range noWordAtAll {
+		for _, op := range []int{impl.InLoad, impl.InStore, impl.InSwap} {
+			wantTarget(t, impl.Ins{Op: op, A: 1, N: 1}, []int{n, 65535, n, n}, 0)
+			wantTarget(t, impl.Ins{Op: op, A: 1, N: 63}, []int{n, 65472, n, n}, 15)
+		}
+	}
+}
+
+// targetByWords sums as the document does: words alone go round at MaxWord. The
+// left of each number is summed, as the sum of far ones has no room in an int.
+func targetByWords(x impl.Ins, regs []int) int {
+	if !hasTarget(x.Op) {
+		return -1
+	}
+	if a := regs[x.A]; a < 0 || a > 65535 {
+		return leftBy(leftBy(a, 24)+x.N, 24)
+	}
+	return leftBy(leftBy(regs[x.A]+x.N, 65536), 24)
+}
+
+func TestTargetByWords(t *testing.T) {
 	for _, x := range rightPlaces() {
 		for _, n := range noWordAtAll {
-			got := impl.Target(x, []int{n, n, n, n})
-			if !hasTarget(x.Op) && got != -1 || hasTarget(x.Op) && (got < 0 || got >= 24) {
-				t.Errorf("Target(%+v) with registers %d is %d", x, n, got)
-			}
+			regs := []int{n, n, n, n}
+			wantTarget(t, x, regs, targetByWords(x, regs))
 		}
 	}
 }
