@@ -4,6 +4,7 @@ import (
 	"cmp"
 	"reflect"
 	"slices"
+	"sync"
 	"testing"
 
 	"loop.example/g00281/impl"
@@ -16,30 +17,80 @@ const spare = 2
 
 // roomy is v with every list in it copied, with spare room behind it in which
 // something stands.
-func roomy[T any](v T) T {
-	return roomyValue(reflect.ValueOf(v)).Interface().(T)
+func roomy[T any](v T) T { return copyOf(v, copying{spare: spare}) }
+
+// cloneOf is v with every list in it copied, with no room behind it.
+func cloneOf[T any](v T) T { return copyOf(v, copying{}) }
+
+// whole is v with every list in it copied and as long as its room, so that
+// two of them tell whether something was written in between.
+func whole[T any](v T) T { return copyOf(v, copying{room: true}) }
+
+// A copying says whether the room behind a list is copied as a part of it, and
+// how much is left behind the copy.
+type copying struct {
+	room  bool
+	spare int
 }
 
-func roomyValue(v reflect.Value) reflect.Value {
-	out := reflect.New(v.Type()).Elem()
-	switch v.Kind() {
+func copyOf[T any](v T, c copying) T {
+	var out T
+	c.fill(reflect.ValueOf(&out).Elem(), reflect.ValueOf(&v).Elem())
+	return out
+}
+
+func (c copying) fill(to, from reflect.Value) {
+	switch from.Kind() {
 	case reflect.Slice:
-		list := reflect.MakeSlice(v.Type(), v.Len()+spare, v.Len()+spare)
-		for i := range v.Len() {
-			list.Index(i).Set(roomyValue(v.Index(i)))
-		}
-		for i := v.Len(); i < list.Len(); i++ {
-			list.Index(i).Set(markOf(v.Type().Elem()))
-		}
-		out.Set(list.Slice(0, v.Len()))
+		to.Set(c.list(from))
 	case reflect.Struct:
-		for i := range v.NumField() {
-			out.Field(i).Set(roomyValue(v.Field(i)))
+		if !hasLists(from.Type()) {
+			to.Set(from)
+			return
+		}
+		for i := range from.NumField() {
+			c.fill(to.Field(i), from.Field(i))
 		}
 	default:
-		out.Set(v)
+		to.Set(from)
 	}
-	return out
+}
+
+func (c copying) list(from reflect.Value) reflect.Value {
+	if c.room {
+		from = from.Slice(0, from.Cap())
+	}
+	size := from.Len() + c.spare
+	list := reflect.MakeSlice(from.Type(), size, size)
+	if hasLists(from.Type().Elem()) {
+		for i := range from.Len() {
+			c.fill(list.Index(i), from.Index(i))
+		}
+	} else {
+		reflect.Copy(list, from)
+	}
+	for i := from.Len(); i < size; i++ {
+		list.Index(i).Set(markOf(from.Type().Elem()))
+	}
+	return list.Slice(0, from.Len())
+}
+
+// withLists holds of each type that was asked for whether there are lists in it:
+// what has none is copied at once, which is much faster.
+var withLists sync.Map
+
+func hasLists(typ reflect.Type) bool {
+	if has, ok := withLists.Load(typ); ok {
+		return has.(bool)
+	}
+	has := typ.Kind() == reflect.Slice
+	if typ.Kind() == reflect.Struct {
+		for i := range typ.NumField() {
+			has = has || hasLists(typ.Field(i).Type)
+		}
+	}
+	withLists.Store(typ, has)
+	return has
 }
 
 // markOf is what stands in spare room: nothing that a program would write.
@@ -66,81 +117,36 @@ func markOf(typ reflect.Type) reflect.Value {
 	return out
 }
 
-// cloneOf is v with every list in it copied, with no room behind it.
-func cloneOf[T any](v T) T {
-	return cloneValue(reflect.ValueOf(v)).Interface().(T)
-}
-
-func cloneValue(v reflect.Value) reflect.Value {
-	out := reflect.New(v.Type()).Elem()
-	switch v.Kind() {
-	case reflect.Slice:
-		list := reflect.MakeSlice(v.Type(), v.Len(), v.Len())
-		for i := range v.Len() {
-			list.Index(i).Set(cloneValue(v.Index(i)))
-		}
-		out.Set(list)
-	case reflect.Struct:
-		for i := range v.NumField() {
-			out.Field(i).Set(cloneValue(v.Field(i)))
-		}
-	default:
-		out.Set(v)
-	}
-	return out
-}
-
-// whole is v with every list in it copied and as long as its room, so that
-// two of them tell whether something was written in between.
-func whole[T any](v T) T {
-	return wholeValue(reflect.ValueOf(v)).Interface().(T)
-}
-
-func wholeValue(v reflect.Value) reflect.Value {
-	out := reflect.New(v.Type()).Elem()
-	switch v.Kind() {
-	case reflect.Slice:
-		full := v.Slice(0, v.Cap())
-		list := reflect.MakeSlice(v.Type(), full.Len(), full.Len())
-		for i := range full.Len() {
-			list.Index(i).Set(wholeValue(full.Index(i)))
-		}
-		out.Set(list)
-	case reflect.Struct:
-		for i := range v.NumField() {
-			out.Field(i).Set(wholeValue(v.Field(i)))
-		}
-	default:
-		out.Set(v)
-	}
-	return out
-}
-
 type span struct{ from, to uintptr }
 
-// spansOf lists the room of every list in v.
-func spansOf(v reflect.Value) []span {
-	var out []span
-	switch v.Kind() {
-	case reflect.Slice:
-		if v.Cap() > 0 {
-			from := v.Pointer()
-			out = append(out, span{from, from + uintptr(v.Cap())*v.Type().Elem().Size()})
-		}
-		for i := range v.Len() {
-			out = append(out, spansOf(v.Index(i))...)
-		}
-	case reflect.Struct:
+// spansOf lists the room of every list in v, behind those that are listed.
+func spansOf(list []span, v reflect.Value) []span {
+	// A nil that stands for no argument is no value at all.
+	if !v.IsValid() || !hasLists(v.Type()) {
+		return list
+	}
+	if v.Kind() == reflect.Struct {
 		for i := range v.NumField() {
-			out = append(out, spansOf(v.Field(i))...)
+			list = spansOf(list, v.Field(i))
+		}
+		return list
+	}
+	elem := v.Type().Elem()
+	if v.Cap() > 0 {
+		from := v.Pointer()
+		list = append(list, span{from, from + uintptr(v.Cap())*elem.Size()})
+	}
+	if hasLists(elem) {
+		for i := range v.Len() {
+			list = spansOf(list, v.Index(i))
 		}
 	}
-	return out
+	return list
 }
 
 // joined is the same room in order, with what meets as one span.
 func joined(v any) (list []span, met bool) {
-	all := spansOf(reflect.ValueOf(v))
+	all := spansOf(nil, reflect.ValueOf(v))
 	slices.SortFunc(all, func(a, b span) int { return cmp.Compare(a.from, b.from) })
 	for _, s := range all {
 		if last := len(list) - 1; last >= 0 && s.from < list[last].to {
