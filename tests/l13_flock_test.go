@@ -429,7 +429,12 @@ func wantFlockDo(t *testing.T, f impl.Flock, d impl.Deed, want impl.Flock, wantC
 	if !impl.FlockOk(f) {
 		then.Codes = nil
 	}
-	wantFlockRun(t, f, []impl.Deed{d}, then)
+	if run := ranFlock(f, []impl.Deed{d}); !sameThen(run, then) {
+		t.Errorf("FlockRun(%v, %v) is\n%v, not\n%v", f, d, run, then)
+	}
+	if code != impl.WdBad && !impl.FlockOk(got) {
+		t.Errorf("FlockDo(%v, %v) is no longer right: %v", f, d, got)
+	}
 }
 
 // wantDoneTo is of a deed that is no step.

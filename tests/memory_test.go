@@ -2,7 +2,9 @@ package tests
 
 import (
 	"cmp"
+	"os"
 	"reflect"
+	"runtime/debug"
 	"slices"
 	"sync"
 	"testing"
@@ -14,6 +16,13 @@ import (
 // and nothing is written into an argument or the spare room behind it.
 
 const spare = 2
+
+// TestMain has what is made be cleared away more seldom: nearly all of it is
+// copies that are looked at once, and clearing them takes most of the time else.
+func TestMain(m *testing.M) {
+	debug.SetGCPercent(400)
+	os.Exit(m.Run())
+}
 
 // roomy is v with every list in it copied, with spare room behind it in which
 // something stands.
@@ -75,19 +84,20 @@ func (c copying) list(from reflect.Value) reflect.Value {
 	return list.Slice(0, from.Len())
 }
 
-// withLists holds of each type that was asked for whether there are lists in it:
-// what has none is copied at once, which is much faster.
+// withLists holds of each struct that was asked for whether there are lists in
+// it: what has none is copied at once, which is much faster.
 var withLists sync.Map
 
 func hasLists(typ reflect.Type) bool {
+	if typ.Kind() != reflect.Struct {
+		return typ.Kind() == reflect.Slice
+	}
 	if has, ok := withLists.Load(typ); ok {
 		return has.(bool)
 	}
-	has := typ.Kind() == reflect.Slice
-	if typ.Kind() == reflect.Struct {
-		for i := range typ.NumField() {
-			has = has || hasLists(typ.Field(i).Type)
-		}
+	has := false
+	for i := range typ.NumField() {
+		has = has || hasLists(typ.Field(i).Type)
 	}
 	withLists.Store(typ, has)
 	return has
