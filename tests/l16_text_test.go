@@ -2,8 +2,12 @@ package tests
 
 import (
 	"fmt"
+	"go/ast"
+	"go/parser"
+	"go/token"
 	"math"
 	"math/rand"
+	"path/filepath"
 	"reflect"
 	"slices"
 	"strconv"
@@ -963,6 +967,70 @@ func TestTheFirstTextsOfAll(t *testing.T) {
 		}
 	}
 	wantNew(t, firstTexts, firstAsked)
+}
+
+// readersOf are the functions of the program that name something, in order.
+func readersOf(files []*ast.File, name string) []string {
+	var list []string
+	for _, file := range files {
+		for _, d := range file.Decls {
+			f, ok := d.(*ast.FuncDecl)
+			if !ok {
+				continue
+			}
+			ast.Inspect(f, func(n ast.Node) bool {
+				if id, ok := n.(*ast.Ident); ok && id.Name == name {
+					list = append(list, f.Name.Name)
+				}
+				return true
+			})
+		}
+	}
+	slices.Sort(list)
+	return slices.Compact(list)
+}
+
+// keptIn are the variables of a file that stand there without a value of their own:
+// they are filled by a call, and kept.
+func keptIn(file *ast.File) []string {
+	var list []string
+	for _, d := range file.Decls {
+		g, ok := d.(*ast.GenDecl)
+		if !ok || g.Tok != token.VAR {
+			continue
+		}
+		for _, s := range g.Specs {
+			if v := s.(*ast.ValueSpec); len(v.Values) == 0 {
+				for _, name := range v.Names {
+					list = append(list, name.Name)
+				}
+			}
+		}
+	}
+	return list
+}
+
+// All that is kept from call to call is the words that are made once, and one exported
+// function alone reads them.
+func TestWhatIsKeptOfTexts(t *testing.T) {
+	paths, _ := filepath.Glob("../impl/*.go")
+	var files []*ast.File
+	var kept []string
+	for _, path := range paths {
+		file, err := parser.ParseFile(token.NewFileSet(), path, nil, 0)
+		if err != nil {
+			t.Fatal(err)
+		}
+		files, kept = append(files, file), append(kept, keptIn(file)...)
+	}
+	if len(files) != 17 || !slices.Equal(kept, []string{"wordsMade", "stateWords"}) {
+		t.Error("of", len(files), "files these are kept:", kept)
+	}
+	for name, want := range map[string][]string{"wordsMade": {"HartText"}, "stateWords": {"HartText", "makeWords"}, "makeWords": {"HartText", "makeWords"}, "HartText": {"HartText"}} {
+		if got := readersOf(files, name); !slices.Equal(got, want) {
+			t.Errorf("%s is named by %v, not by %v", name, got, want)
+		}
+	}
 }
 
 func TestTextAnswersAreNewMemory(t *testing.T) {
